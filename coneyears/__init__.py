@@ -1,0 +1,1 @@
+"""Seed: what a nursery's sowings come to, year by year."""
