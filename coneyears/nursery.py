@@ -1,4 +1,4 @@
-"""A nursery's calls: what it is told, and what a row of sowings comes to, year by year."""
+"""A nursery's calls: what it is told, what a row of sowings comes to, year by year, and which row is best."""
 
 MOST_BEDS = 4
 MOST_LOSS = 100
@@ -7,12 +7,21 @@ MOST_SEEDLINGS = 1000
 MOST_YEARS = 6
 MOST_GATHERED = 8
 MOST_WANTED = 100000
+MOST_WANTED_MORE = 100000
+
+YEARS_TILL_LIFTED = 2
 
 BEGINS = 0
 YEARS = 1
 FOLLOW = 2
+LIFT = 3
+BEST = 4
+MORE = 5
 
 NOT_AS_TOLD = -1
+NO_SUCH_YEAR = -2
+NO_ROW_WOULD_DO = -3
+NO_ROW_DOES = -6
 
 
 class UnknownCall(Exception):
@@ -38,6 +47,14 @@ class Stock:
         self.bags = bags
 
 
+class Sowings:
+    """The sowings of the first years, and the stock behind them."""
+
+    def __init__(self, row, stock):
+        self.row = row
+        self.stock = stock
+
+
 def answers(calls):
     """For each call in order: how many numbers are answered, then these."""
     nursery = Nursery()
@@ -61,6 +78,12 @@ def answer_call(nursery, call, numbers):
         return answer_years(nursery, numbers)
     if call == FOLLOW:
         return answer_follow(nursery, numbers)
+    if call == LIFT:
+        return answer_lift(nursery, numbers)
+    if call == BEST:
+        return answer_best(nursery)
+    if call == MORE:
+        return answer_more(nursery, numbers[0], numbers[1])
     raise UnknownCall(f"no call has the number {call}")
 
 
@@ -96,7 +119,7 @@ def answer_follow(nursery, row):
     stock = stock_at_beginning(nursery)
     done = 0
     for sown in row:
-        behind = stock_behind(nursery, stock, done, sown)
+        behind = stock_behind_three_first(nursery, stock, done, sown)
         if behind is None:
             break
         stock = behind
@@ -104,20 +127,104 @@ def answer_follow(nursery, row):
     return [done] + stock.plants + stock.bags
 
 
+def answer_lift(nursery, numbers):
+    row = numbers[0::2]
+    lifted_of_two = numbers[1::2]
+    if len(row) != len(nursery.gathered):
+        return [NOT_AS_TOLD]
+    stock = stock_at_beginning(nursery)
+    for year in range(len(row)):
+        stock = stock_behind(nursery, stock, year, row[year], lifted_of_two[year])
+        if stock is None:
+            return [year]
+    return [len(row)]
+
+
+def answer_best(nursery):
+    rows = best_rows(nursery)
+    if len(rows) == 0:
+        return [NO_ROW_DOES]
+    return [sum(rows[0]), len(rows)] + rows[0]
+
+
+def answer_more(nursery, year, more):
+    if year >= len(nursery.wanted):
+        return [NO_SUCH_YEAR]
+    if more > MOST_WANTED_MORE:
+        return [NOT_AS_TOLD]
+    now = best_rows(nursery)
+    if len(now) == 0:
+        return [NO_ROW_DOES]
+    then = best_rows(nursery_with_more_wanted(nursery, year, more))
+    if len(then) == 0:
+        return [NO_ROW_WOULD_DO]
+    return [sum(then[0]) - sum(now[0]), len(then)] + then[0]
+
+
+def nursery_with_more_wanted(nursery, year, more):
+    other = Nursery()
+    other.beds = nursery.beds
+    other.losses = nursery.losses
+    other.seedlings = nursery.seedlings
+    other.gathered = nursery.gathered
+    other.wanted = list(nursery.wanted)
+    other.wanted[year] = nursery.wanted[year] + more
+    return other
+
+
 def any_above(numbers, most):
     return any([number > most for number in numbers])
+
+
+def best_rows(nursery):
+    """Those that do with the fewest bags, the earliest first; none if no row does."""
+    rows = rows_that_do(nursery)
+    fewest = min([sum(row) for row in rows], default=0)
+    return [row for row in rows if sum(row) == fewest]
+
+
+def rows_that_do(nursery):
+    """The rows that do, the earliest first, but for those that sow what can't be lifted any more."""
+    begun = [Sowings([], stock_at_beginning(nursery))]
+    for year in range(len(nursery.gathered)):
+        begun = sowings_a_year_longer(nursery, begun, year)
+    return [sowings.row for sowings in begun]
+
+
+def sowings_a_year_longer(nursery, begun, year):
+    most = most_of_use(nursery, year)
+    longer = []
+    for sowings in begun:
+        for sown in range(most + 1):
+            stock = stock_behind_three_first(nursery, sowings.stock, year, sown)
+            if stock is not None:
+                longer.append(Sowings(sowings.row + [sown], stock))
+    return longer
+
+
+def most_of_use(nursery, year):
+    # What is sown in the last two years is never lifted: a row without it does too, and has fewer bags, so that
+    # none of the best rows is passed over, and far fewer rows are gone through.
+    if year + YEARS_TILL_LIFTED >= len(nursery.gathered):
+        return 0
+    return nursery.beds
 
 
 def stock_at_beginning(nursery):
     return Stock([0, 0, 0], [0] * len(nursery.seedlings))
 
 
-def stock_behind(nursery, stock, year, sown):
-    """The stock when the year is over, or None if the year can't be done."""
+def stock_behind_three_first(nursery, stock, year, sown):
+    lifted_of_two = max(nursery.wanted[year] - stock.plants[2], 0)
+    return stock_behind(nursery, stock, year, sown, lifted_of_two)
+
+
+def stock_behind(nursery, stock, year, sown, lifted_of_two):
+    """The stock when the year is over, or None if the year can't be done so."""
     bags = [stock.bags[0] + nursery.gathered[year]] + stock.bags[1:]
     if sown > nursery.beds or sown > sum(bags):
         return None
-    plants = plants_unlifted(stock.plants, nursery.wanted[year])
+    plants = plants_unlifted(stock.plants, nursery.wanted[year], lifted_of_two)
     if plants is None:
         return None
     taken = bags_taken(bags, sown)
@@ -136,11 +243,12 @@ def bags_taken(bags, sown):
     return taken
 
 
-def plants_unlifted(plants, wanted):
-    """The plants that stay, those of three years being lifted first, or None if there are too few."""
-    lifted_of_three = min(plants[2], wanted)
-    lifted_of_two = wanted - lifted_of_three
-    if lifted_of_two > plants[1]:
+def plants_unlifted(plants, wanted, lifted_of_two):
+    """The plants that stay, or None if those that are wanted can't be lifted so."""
+    if lifted_of_two > wanted or lifted_of_two > plants[1]:
+        return None
+    lifted_of_three = wanted - lifted_of_two
+    if lifted_of_three > plants[2]:
         return None
     return [plants[0], plants[1] - lifted_of_two, plants[2] - lifted_of_three]
 

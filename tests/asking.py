@@ -20,6 +20,18 @@ def follow(*row):
     return call(2, row)
 
 
+def lift(*pairs):
+    return call(3, [number for pair in pairs for number in pair])
+
+
+def best():
+    return call(4, [])
+
+
+def more(year, wanted):
+    return call(5, [year, wanted])
+
+
 def parted(numbers):
     parts = []
     place = 0
